@@ -1,0 +1,1 @@
+"""Datedlines: trees by dates or depths."""

@@ -1,0 +1,110 @@
+"""What several tests need: a test case that asks for errors, and calendars and trees found by listing."""
+
+import unittest
+from itertools import combinations, product
+
+from datedlines.calendars import Calendar, made_calendar
+from datedlines.errors import Refused
+
+# Values built from tuples, texts and numbers that are no tuple of numbers.
+ODD = (True, False, "", "change", "2", 0, 1, -7, 10 ** 40, ("",), ("a", 2), ((2,),), (True,), (2, True), (((2,),),))
+
+DEEP = ()
+for _ in range(99):
+    DEEP = (DEEP,)
+
+LONG = (2,) * 10 ** 5
+
+
+class Case(unittest.TestCase):
+    def refused(self, error, what, function, *args, **more):
+        """Ask that the call raises just this error, with just this what."""
+        with self.assertRaises(Refused) as caught:
+            function(*args, **more)
+        self.assertIs(caught.exception.__class__, error)
+        self.assertEqual(caught.exception.what, what)
+        self.assertIs(caught.exception.what.__class__, what.__class__)
+
+
+def calendar_of(born, *days):
+    return made_calendar(born, days)
+
+
+LATE = Calendar((0, 0, 1, 1, 2), ((2,), (2,), (3,)))
+TWO_LEFT = Calendar((0, 0, 1, 0, 3), ((2,), (2,), (2,)))
+PAIRS = Calendar((0, 0, 0, 0), ((2, 2), (2,)))
+MIXED = Calendar((0, 0, 0, 0, 0, 0, 1), ((3, 2), (2, 2)))
+SINGLE = Calendar((0,), ())
+WIDE = Calendar((0,) * 12, ((3, 2, 2), (2, 2), (3, 2), (2,), (2,)))
+PLAIN_TWELVE = Calendar((0,) * 12, ((2,),) * 11)
+LATE_TWELVE = Calendar((0, 0, 1, 2, 3, 4, 5, 6, 7, 8, 9, 10), ((2,),) * 11)
+
+
+def small_patterns(k):
+    """All patterns but () of at most k lines, from all tuples of sizes."""
+    found = []
+    for many in range(1, k // 2 + 1):
+        for sizes in product(range(2, k + 1), repeat=many):
+            if sum(sizes) <= k and list(sizes) == sorted(sizes, reverse=True):
+                found.append(sizes)
+    return sorted(found)
+
+
+def enough(born, days):
+    """Whether on each day as many lines are alive as meet."""
+    for d, pattern in enumerate(days):
+        ahead = len([x for x in born if x <= d]) - sum(s - 1 for e in range(d) for s in days[e])
+        if ahead < sum(pattern):
+            return False
+    return True
+
+
+def small_calendars(most_leaves, most_days):
+    """All calendars up to this many leaves and days."""
+    found = []
+    for n in range(1, most_leaves + 1):
+        for m in range(most_days + 1):
+            for days in product(small_patterns(n), repeat=m):
+                for born in product(range(m + 1), repeat=n):
+                    if enough(born, days):
+                        found.append(Calendar(born, days))
+    return found
+
+
+def listed_rows(names, pattern):
+    """All rows of groups of these sizes, ascending, from all sets of groups."""
+    groups = [g for size in sorted(set(pattern)) for g in combinations(sorted(names), size)]
+    found = []
+    for row in combinations(sorted(groups), len(pattern)):
+        taken = [name for group in row for name in group]
+        if len(set(taken)) == len(taken) and sorted(map(len, row), reverse=True) == list(pattern):
+            found.append(row)
+    return sorted(found)
+
+
+def sets_at(calendar, tree, d):
+    """The lines at moment d as sets of leaves, newcomers among them."""
+    lots = [{x} for x, moment in enumerate(calendar.born) if moment <= d]
+    for row in tree[:d]:
+        for group in row:
+            meeting = [lot for lot in lots if min(lot) in group]
+            lots = [lot for lot in lots if lot not in meeting] + [set().union(*meeting)]
+    return sorted(lots, key=min)
+
+
+def sets_behind(calendar, tree, d):
+    """The lines right after day d as sets of leaves."""
+    early = [lot for lot in sets_at(calendar, tree, d + 1) if any(calendar.born[x] <= d for x in lot)]
+    return early
+
+
+def listed_trees(calendar):
+    """All trees of a calendar, ascending."""
+    found = [()]
+    for d, pattern in enumerate(calendar.days):
+        longer = []
+        for rows in found:
+            names = [min(lot) for lot in sets_at(calendar, rows, d)]
+            longer.extend([rows + (row,) for row in listed_rows(names, pattern)])
+        found = longer
+    return sorted(found)

@@ -1,0 +1,57 @@
+"""Each name of the interface stands in its file, with its arguments."""
+
+import ast
+import importlib
+import inspect
+import os
+import unittest
+
+PACKAGE = os.path.join(os.path.dirname(os.path.dirname(os.path.abspath(__file__))), "datedlines")
+
+INTERFACE = """
+shares: share(n, d) plus(one, two) minus(one, two) times(one, two) mean(shares)
+patterns: choose(a, b) is_pattern(thing) patterns(k) met(pattern) less(pattern) ways(k, pattern)
+polynomials: poly_times(one, two) touched(k, pattern) whole(k, pattern)
+calendars: made_calendar(born, days) leaves_many(calendar) days_many(calendar) renamed(calendar, places)
+alive: alive(calendar, d) behind(calendar, d) ends(calendar)
+calendarlooks: is_plain(calendar) is_level(calendar) plain(n) star(n)
+trees: made_tree(calendar, rows) is_tree(calendar, thing)
+treelines: lines(calendar, tree, d) behind_lines(calendar, tree, d) bough_of(calendar, tree, d, x)
+treeroads: met_on(calendar, tree, x, y) joints(calendar, tree) depth(calendar, tree, x) path(calendar, tree, x)
+"""
+
+
+def listed():
+    """The triples (file, function, arguments) of the interface."""
+    found = []
+    for row in INTERFACE.strip().split("\n"):
+        file, functions = row.split(": ")
+        for function in functions.replace(") ", ")\n").split("\n"):
+            name, arguments = function.rstrip(")").split("(")
+            found.append((file, name, arguments.split(", ")))
+    return found
+
+
+class InterfaceTest(unittest.TestCase):
+    def test_functions_have_their_arguments(self):
+        for file, name, arguments in listed():
+            function = getattr(importlib.import_module("datedlines." + file), name)
+            parameters = inspect.signature(function).parameters
+            self.assertEqual(list(parameters), arguments, name)
+            for parameter in parameters.values():
+                self.assertIs(parameter.kind, inspect.Parameter.POSITIONAL_OR_KEYWORD)
+                self.assertIs(parameter.default, inspect.Parameter.empty)
+
+    def test_functions_are_defined_in_their_files(self):
+        for file, name, _ in listed():
+            with open(os.path.join(PACKAGE, file + ".py")) as source:
+                body = ast.parse(source.read()).body
+            self.assertIn(name, [part.name for part in body if isinstance(part, ast.FunctionDef)])
+
+    def test_the_calendar_has_its_own_methods(self):
+        calendars = importlib.import_module("datedlines.calendars")
+        self.assertIn("__eq__", vars(calendars.Calendar))
+
+
+if __name__ == "__main__":
+    unittest.main()
