@@ -58,12 +58,12 @@ def less(pattern):
 def ways(k, pattern):
     """Return the number of ways to choose groups of these sizes out of k things."""
     ask_size(k)
-    ask_pattern(pattern)
-    if met(pattern) > k:
+    lines = met(pattern)
+    if lines > k:
         return 0
     alike = 1
     for s in pattern:
         alike = alike * factorial(s)
     for s in sorted(set(pattern)):
         alike = alike * factorial(pattern.count(s))
-    return perm(k, met(pattern)) // alike
+    return perm(k, lines) // alike

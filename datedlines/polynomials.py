@@ -4,7 +4,7 @@ from math import comb
 
 from datedlines.checks import ask_size
 from datedlines.errors import TooFew
-from datedlines.patterns import ask_pattern, met
+from datedlines.patterns import met
 
 ONE = ((0, 0, 1),)
 SINGLE_LINE = ((0, 0, 1), (1, 1, 1))
@@ -35,7 +35,6 @@ def whole(k, pattern):
 def _ask_day(k, pattern):
     """Raise what touched and whole raise."""
     ask_size(k)
-    ask_pattern(pattern)
     if met(pattern) > k:
         raise TooFew(k)
 

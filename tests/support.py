@@ -108,3 +108,31 @@ def listed_trees(calendar):
             longer.extend([rows + (row,) for row in listed_rows(names, pattern)])
         found = longer
     return sorted(found)
+
+
+def exchanged_sets(calendar, tree, d, a, b):
+    """The tree in which the lines a and b of moment d are exchanged, from sets of leaves."""
+    lots = {min(lot): lot for lot in sets_at(calendar, tree, d)}
+    here, there = lots[a], lots[b]
+    rows = list(tree[:d])
+    for e in range(d, len(tree)):
+        name_of = {}
+        for lot in sets_at(calendar, tree, e):
+            other = lot - here - there
+            if here <= lot:
+                other = other | there
+            if there <= lot:
+                other = other | here
+            name_of[min(lot)] = min(other)
+        groups = [tuple(sorted(name_of[name] for name in group)) for group in tree[e]]
+        rows.append(tuple(sorted(groups)))
+    return tuple(rows)
+
+
+def joint_sets(calendar, tree):
+    """For each day the joints, as sets of the sets of leaves that meet."""
+    found = []
+    for d, row in enumerate(tree):
+        lots = {min(lot): frozenset(lot) for lot in sets_at(calendar, tree, d)}
+        found.append({frozenset(lots[name] for name in group) for group in row})
+    return found

@@ -18,6 +18,16 @@ calendarlooks: is_plain(calendar) is_level(calendar) plain(n) star(n)
 trees: made_tree(calendar, rows) is_tree(calendar, thing)
 treelines: lines(calendar, tree, d) behind_lines(calendar, tree, d) bough_of(calendar, tree, d, x)
 treeroads: met_on(calendar, tree, x, y) joints(calendar, tree) depth(calendar, tree, x) path(calendar, tree, x)
+treelooks: renamed_tree(calendar, tree, places)
+deeds: offers(calendar, tree) changing(calendar, tree)
+done: done(calendar, tree, deed)
+runs: walked(calendar, tree, run) run_between(calendar, one, two)
+runsjudged: run_right(calendar, tree, run, goal)
+numbers: size(calendar)
+nthgroups: nth_groups(names, pattern, k) groups_rank(names, pattern, row)
+nthtree: nth_tree(calendar, k) tree_rank(calendar, tree)
+draws: drawn(calendar, digits)
+rests: rest(calendar, d) rest_tree(calendar, tree, d) bough_tree(calendar, tree, d, x)
 """
 
 

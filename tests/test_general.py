@@ -1,0 +1,99 @@
+"""The general rules: tuples alone, the same for the same, nothing that is handed in is changed."""
+
+import unittest
+
+from datedlines.alive import alive, behind, ends
+from datedlines.calendarlooks import is_level, is_plain, plain, star
+from datedlines.calendars import Calendar, days_many, leaves_many, made_calendar, renamed
+from datedlines.deeds import changing, offers
+from datedlines.done import done
+from datedlines.draws import drawn
+from datedlines.nthgroups import groups_rank, nth_groups
+from datedlines.nthtree import nth_tree, tree_rank
+from datedlines.numbers import size
+from datedlines.patterns import choose, is_pattern, less, met, patterns, ways
+from datedlines.polynomials import poly_times, touched, whole
+from datedlines.rests import bough_tree, rest, rest_tree
+from datedlines.runs import run_between, walked
+from datedlines.runsjudged import run_right
+from datedlines.shares import mean, minus, plus, share, times
+from datedlines.treelines import behind_lines, bough_of, lines
+from datedlines.treelooks import renamed_tree
+from datedlines.treeroads import depth, joints, met_on, path
+from datedlines.trees import is_tree, made_tree
+
+LATE = Calendar((0, 0, 1, 1, 2), ((2,), (2,), (3,)))
+TREE = (((0, 1),), ((2, 3),), ((0, 2, 4),))
+OTHER = (((0, 1),), ((0, 3),), ((0, 2, 4),))
+DEED = ("change", 1, 0, 3)
+
+NUMBERS = [
+    (choose, dict(a=5, b=2)), (met, dict(pattern=(3, 2))), (less, dict(pattern=(3, 2))),
+    (ways, dict(k=6, pattern=(3, 2))), (leaves_many, dict(calendar=LATE)), (days_many, dict(calendar=LATE)),
+    (alive, dict(calendar=LATE, d=1)), (behind, dict(calendar=LATE, d=1)), (ends, dict(calendar=LATE)),
+    (met_on, dict(calendar=LATE, tree=TREE, x=3, y=4)), (depth, dict(calendar=LATE, tree=TREE, x=3)),
+    (size, dict(calendar=LATE)), (groups_rank, dict(names=(0, 1, 2), pattern=(2,), row=((0, 2),))),
+    (tree_rank, dict(calendar=LATE, tree=TREE)),
+]
+ANSWERS = [
+    (is_pattern, dict(thing=(2,))), (is_pattern, dict(thing=3)), (is_plain, dict(calendar=LATE)),
+    (is_level, dict(calendar=plain(1))), (is_tree, dict(calendar=LATE, thing=TREE)),
+    (is_tree, dict(calendar=LATE, thing=0)),
+    (run_right, dict(calendar=LATE, tree=TREE, run=(), goal=TREE)),
+    (run_right, dict(calendar=LATE, tree=0, run=0, goal=0)),
+]
+TUPLES = [
+    (share, dict(n=2, d=4)), (plus, dict(one=(1, 2), two=(1, 3))), (minus, dict(one=(1, 2), two=(1, 3))),
+    (times, dict(one=(1, 2), two=(1, 3))), (mean, dict(shares=((1, 2), (1, 3)))), (patterns, dict(k=5)),
+    (poly_times, dict(one=((0, 1, 2),), two=((1, 0, 3),))), (touched, dict(k=4, pattern=(2,))),
+    (whole, dict(k=4, pattern=(2,))), (made_tree, dict(calendar=LATE, rows=TREE)),
+    (lines, dict(calendar=LATE, tree=TREE, d=2)), (behind_lines, dict(calendar=LATE, tree=TREE, d=2)),
+    (bough_of, dict(calendar=LATE, tree=TREE, d=2, x=2)), (joints, dict(calendar=LATE, tree=TREE)),
+    (path, dict(calendar=LATE, tree=TREE, x=2)), (renamed_tree, dict(calendar=LATE, tree=TREE, places=(4, 3, 2, 1, 0))),
+    (offers, dict(calendar=LATE, tree=TREE)), (changing, dict(calendar=LATE, tree=TREE)),
+    (done, dict(calendar=LATE, tree=TREE, deed=DEED)), (walked, dict(calendar=LATE, tree=TREE, run=(DEED, DEED))),
+    (run_between, dict(calendar=LATE, one=TREE, two=OTHER)), (nth_groups, dict(names=(0, 1, 2), pattern=(2,), k=1)),
+    (nth_tree, dict(calendar=LATE, k=1)), (drawn, dict(calendar=LATE, digits=(4, 5))),
+    (rest_tree, dict(calendar=LATE, tree=TREE, d=1)), (bough_tree, dict(calendar=LATE, tree=TREE, d=3, x=1)),
+]
+CALENDARS = [
+    (made_calendar, dict(born=(0, 0), days=((2,),))), (renamed, dict(calendar=LATE, places=(1, 0, 2, 4, 3))),
+    (plain, dict(n=3)), (star, dict(n=3)), (rest, dict(calendar=LATE, d=1)),
+]
+
+
+def parts(thing):
+    """The thing and all that it is built from."""
+    found = [thing]
+    if isinstance(thing, Calendar):
+        thing = (thing.born, thing.days)
+    if isinstance(thing, (tuple, list)):
+        for part in thing:
+            found.extend(parts(part))
+    return found
+
+
+class GeneralTest(unittest.TestCase):
+    def test_kinds_of_values(self):
+        for kind, calls in ((int, NUMBERS), (bool, ANSWERS), (tuple, TUPLES), (Calendar, CALENDARS)):
+            for function, arguments in calls:
+                found = function(**arguments)
+                self.assertIs(found.__class__, kind, function)
+                for part in parts(found):
+                    self.assertIn(part.__class__, (kind, tuple, int, str, Calendar), function)
+
+    def test_by_position_and_again(self):
+        for function, arguments in NUMBERS + ANSWERS + TUPLES + CALENDARS:
+            found = function(**arguments)
+            self.assertEqual(function(*arguments.values()), found)
+            self.assertEqual(function(**arguments), found)
+
+    def test_calendars_never_change(self):
+        self.assertEqual((LATE.born, LATE.days), ((0, 0, 1, 1, 2), ((2,), (2,), (3,))))
+        for function, arguments in NUMBERS + ANSWERS + TUPLES + CALENDARS:
+            function(**arguments)
+        self.assertEqual((LATE.born, LATE.days), ((0, 0, 1, 1, 2), ((2,), (2,), (3,))))
+
+
+if __name__ == "__main__":
+    unittest.main()
