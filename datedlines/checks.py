@@ -1,6 +1,6 @@
 """Checks of numbers and leaves that several files need."""
 
-from datedlines.errors import BadLeaf, BadMoment, BadSize
+from datedlines.errors import BadLeaf, BadMoment, BadSet, BadSize
 
 MOST_LEAVES = 12
 
@@ -43,3 +43,20 @@ def ask_born_leaf(calendar, x, d):
     ask_leaf(calendar, x)
     if calendar.born[x] > d:
         raise BadLeaf(x)
+
+
+def ask_two_leaves(calendar, x, y):
+    """Raise BadLeaf unless both are leaves of the calendar, BadSet if they are one leaf."""
+    ask_leaf(calendar, x)
+    ask_leaf(calendar, y)
+    if x == y:
+        raise BadSet(x)
+
+
+def ask_set(calendar, some):
+    """Raise BadSet unless some is a set of leaves of the calendar."""
+    if len(some) == 0:
+        raise BadSet(0)
+    for i, x in enumerate(some):
+        if not is_from_to(x, 0, len(calendar.born) - 1) or (i > 0 and x <= some[i - 1]):
+            raise BadSet(i)

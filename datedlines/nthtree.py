@@ -33,9 +33,15 @@ def _figures(calendar, k):
 def tree_rank(calendar, tree):
     """Return the number of the tree."""
     made_tree(calendar, tree)
+    return head_rank(calendar, tree)
+
+
+def head_rank(calendar, rows):
+    """Return the number of the rows of the first days of a tree among all such rows of as many days."""
+    many = ways_of_days(calendar)
     names = newborn(calendar, 0)
     rank = 0
-    for d, many in enumerate(ways_of_days(calendar)):
-        rank = rank * many + groups_rank(names, calendar.days[d], tree[d])
-        names = names_after(calendar, d, names, tree[d])
+    for d, row in enumerate(rows):
+        rank = rank * many[d] + groups_rank(names, calendar.days[d], row)
+        names = names_after(calendar, d, names, row)
     return rank

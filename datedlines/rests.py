@@ -19,8 +19,12 @@ def rest_tree(calendar, tree, d):
     """Return the tree of rest(calendar, d) that has the groups of the tree's days from d on."""
     made_tree(calendar, tree)
     ask_moment(d, days_many(calendar))
-    old_names = list(names_at(calendar, tree, d)) + _born_later(calendar, d)
-    return rewritten(tree[d:], {name: x for x, name in enumerate(old_names)})
+    return rewritten(tree[d:], {name: x for x, name in enumerate(rest_names(calendar, tree, d))})
+
+
+def rest_names(calendar, rows, d):
+    """Return the names of the lines and of the later leaves for which the leaves of the rest stand."""
+    return list(names_at(calendar, rows, d)) + _born_later(calendar, d)
 
 
 def _born_later(calendar, d):

@@ -38,3 +38,13 @@ def mean(shares):
     for one in shares:
         total = plus(total, one)
     return times(total, (1, len(shares)))
+
+
+def add_share(found, place, one):
+    """Add a share to what stands at the place in a dict of shares."""
+    found[place] = plus(found.get(place, (0, 1)), one)
+
+
+def pairs_of(found):
+    """Return the list of chances that a dict of shares tells: ascending pairs, without shares of 0."""
+    return tuple([(place, found[place]) for place in sorted(found) if found[place] != (0, 1)])

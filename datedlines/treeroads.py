@@ -1,7 +1,6 @@
 """The joints of a tree, and what they tell of its leaves."""
 
-from datedlines.checks import ask_leaf
-from datedlines.errors import BadSet
+from datedlines.checks import ask_leaf, ask_two_leaves
 from datedlines.treelines import joined, line_with, with_newborn
 from datedlines.trees import made_tree
 
@@ -9,10 +8,7 @@ from datedlines.trees import made_tree
 def met_on(calendar, tree, x, y):
     """Return the day on which two leaves first stand in one line, None if they never do."""
     made_tree(calendar, tree)
-    ask_leaf(calendar, x)
-    ask_leaf(calendar, y)
-    if x == y:
-        raise BadSet(x)
+    ask_two_leaves(calendar, x, y)
     for d, _, leaves in _joints_of(calendar, tree):
         if x in leaves and y in leaves:
             return d

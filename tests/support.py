@@ -1,7 +1,10 @@
 """What several tests need: a test case that asks for errors, and calendars and trees found by listing."""
 
 import unittest
+from fractions import Fraction
+from functools import lru_cache
 from itertools import combinations, product
+from math import gcd
 
 from datedlines.calendars import Calendar, made_calendar
 from datedlines.errors import Refused
@@ -16,6 +19,11 @@ for _ in range(99):
 LONG = (2,) * 10 ** 5
 
 
+# What is no set of plain(4), and the index that BadSet tells.
+WRONG_SETS = (((), 0), ((4,), 0), ((-1, 0), 0), ((0, 4), 1), ((0, 0), 1), ((2, 1, 9), 1), ((0, 1, 2, 3, 4), 4),
+              ((0, 3, 2), 2), ((10 ** 40,), 0))
+
+
 class Case(unittest.TestCase):
     def refused(self, error, what, function, *args, **more):
         """Ask that the call raises just this error, with just this what."""
@@ -24,6 +32,16 @@ class Case(unittest.TestCase):
         self.assertIs(caught.exception.__class__, error)
         self.assertEqual(caught.exception.what, what)
         self.assertIs(caught.exception.what.__class__, what.__class__)
+
+    def assert_chances(self, pairs, total=(1, 1)):
+        """Ask that the pairs ascend, and that their shares are above 0, in lowest terms, and have this sum."""
+        places = [place for place, _ in pairs]
+        self.assertEqual(places, sorted(set(places)))
+        for _, (n, d) in pairs:
+            self.assertGreater(n, 0)
+            self.assertGreater(d, 0)
+            self.assertEqual(gcd(n, d), 1)
+        self.assertEqual(sum(Fraction(*one) for _, one in pairs), Fraction(*total))
 
 
 def calendar_of(born, *days):
@@ -37,7 +55,12 @@ MIXED = Calendar((0, 0, 0, 0, 0, 0, 1), ((3, 2), (2, 2)))
 SINGLE = Calendar((0,), ())
 WIDE = Calendar((0,) * 12, ((3, 2, 2), (2, 2), (3, 2), (2,), (2,)))
 PLAIN_TWELVE = Calendar((0,) * 12, ((2,),) * 11)
+# 2000 and 2016 trees, on both sides of the limit of 2000.
+AT_LIMIT = Calendar((0,) * 6 + (1, 2), ((3,), (2,), (2,)))
+OVER_LIMIT = Calendar((0,) * 9, ((2,), (5,)))
 LATE_TWELVE = Calendar((0, 0, 1, 2, 3, 4, 5, 6, 7, 8, 9, 10), ((2,),) * 11)
+# Twelve leaves with births of all kinds, the last one behind all days, and two lines left.
+LATE_MANY = Calendar((0, 0, 0, 0, 0, 1, 1, 2, 3, 5, 6, 7), ((2, 2), (3,), (2,), (2, 2), (2,), (2,), (2,)))
 
 
 def small_patterns(k):
@@ -136,3 +159,62 @@ def joint_sets(calendar, tree):
         lots = {min(lot): frozenset(lot) for lot in sets_at(calendar, tree, d)}
         found.append({frozenset(lots[name] for name in group) for group in row})
     return found
+
+
+def chance_calendars():
+    """Calendars whose trees are listed to find chances: all small ones, every third one of five leaves, and some."""
+    return small_calendars(4, 3) + small_calendars(5, 2)[::3] + [LATE, TWO_LEFT, PAIRS, MIXED]
+
+
+def subsets(leaves, least=1):
+    """All ascending tuples of at least so many of the leaves."""
+    return [some for many in range(least, len(leaves) + 1) for some in combinations(leaves, many)]
+
+
+@lru_cache(maxsize=None)
+def _behind_of(born, days):
+    calendar = Calendar(born, days)
+    found = []
+    for tree in listed_trees(calendar):
+        behind = [sets_behind(calendar, tree, d) for d in range(len(days))]
+        found.append([[frozenset(lot) for lot in lots] for lots in behind])
+    return found
+
+
+def behind_all(calendar):
+    """For each tree, in ascending order, the lines right after each day."""
+    return _behind_of(calendar.born, calendar.days)
+
+
+def listed_chances(calendar, answer):
+    """The list of chances of an answer, which is given the lines right after each day of a tree."""
+    answers = [answer(behind) for behind in behind_all(calendar)]
+    return tuple((thing, lowest(answers.count(thing), len(answers))) for thing in sorted(set(answers)))
+
+
+def listed_mean(calendar, answer):
+    """The mean of an answer that is a number."""
+    answers = [answer(behind) for behind in behind_all(calendar)]
+    return lowest(sum(answers), len(answers))
+
+
+def lowest(n, d):
+    """The share n / d, without the package."""
+    fraction = Fraction(n, d)
+    return fraction.numerator, fraction.denominator
+
+
+def first_of(behind, holds):
+    """The first day for which holds, given the day and the lines right after it; the number of days for never."""
+    for d, lots in enumerate(behind):
+        if holds(d, lots):
+            return d
+    return len(behind)
+
+
+def line_of(lots, x):
+    """The one of the lines that has the leaf x, None if there is none."""
+    for lot in lots:
+        if x in lot:
+            return lot
+    return None

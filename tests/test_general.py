@@ -3,11 +3,19 @@
 import unittest
 
 from datedlines.alive import alive, behind, ends
+from datedlines.bare import bare, first_met, sisters, twins
+from datedlines.boughs import ever_bough, first_bough, is_bough
 from datedlines.calendarlooks import is_level, is_plain, plain, star
 from datedlines.calendars import Calendar, days_many, leaves_many, made_calendar, renamed
+from datedlines.classes import class_of, unlike_days
 from datedlines.deeds import changing, offers
+from datedlines.depthchances import bough_mean, depth_chances, depth_mean
 from datedlines.done import done
 from datedlines.draws import drawn
+from datedlines.glue import glued
+from datedlines.heads import headed, heads_many
+from datedlines.meetings import meeting, partners
+from datedlines.nearest import balls, fewest
 from datedlines.nthgroups import groups_rank, nth_groups
 from datedlines.nthtree import nth_tree, tree_rank
 from datedlines.numbers import size
@@ -16,7 +24,9 @@ from datedlines.polynomials import poly_times, touched, whole
 from datedlines.rests import bough_tree, rest, rest_tree
 from datedlines.runs import run_between, walked
 from datedlines.runsjudged import run_right
+from datedlines.setlines import all_met, set_lines
 from datedlines.shares import mean, minus, plus, share, times
+from datedlines.spectrum import line_sizes, spectrum
 from datedlines.treelines import behind_lines, bough_of, lines
 from datedlines.treelooks import renamed_tree
 from datedlines.treeroads import depth, joints, met_on, path
@@ -33,7 +43,8 @@ NUMBERS = [
     (alive, dict(calendar=LATE, d=1)), (behind, dict(calendar=LATE, d=1)), (ends, dict(calendar=LATE)),
     (met_on, dict(calendar=LATE, tree=TREE, x=3, y=4)), (depth, dict(calendar=LATE, tree=TREE, x=3)),
     (size, dict(calendar=LATE)), (groups_rank, dict(names=(0, 1, 2), pattern=(2,), row=((0, 2),))),
-    (tree_rank, dict(calendar=LATE, tree=TREE)),
+    (tree_rank, dict(calendar=LATE, tree=TREE)), (heads_many, dict(calendar=LATE, d=2)),
+    (unlike_days, dict(calendar=LATE, one=TREE, two=OTHER)), (fewest, dict(calendar=LATE, one=TREE, two=OTHER)),
 ]
 ANSWERS = [
     (is_pattern, dict(thing=(2,))), (is_pattern, dict(thing=3)), (is_plain, dict(calendar=LATE)),
@@ -54,6 +65,16 @@ TUPLES = [
     (done, dict(calendar=LATE, tree=TREE, deed=DEED)), (walked, dict(calendar=LATE, tree=TREE, run=(DEED, DEED))),
     (run_between, dict(calendar=LATE, one=TREE, two=OTHER)), (nth_groups, dict(names=(0, 1, 2), pattern=(2,), k=1)),
     (nth_tree, dict(calendar=LATE, k=1)), (drawn, dict(calendar=LATE, digits=(4, 5))),
+    (headed, dict(calendar=LATE, rows=TREE[:2])),
+    (glued, dict(calendar=LATE, rows=TREE[:1], later=(((0, 1),), ((0, 2, 3),)))), (class_of, dict(calendar=LATE)),
+    (balls, dict(calendar=LATE, tree=TREE)), (meeting, dict(calendar=LATE, x=3, y=1)),
+    (partners, dict(calendar=LATE, d=1, x=3)), (set_lines, dict(calendar=LATE, some=(1, 2, 3), d=1)),
+    (all_met, dict(calendar=LATE, some=(1, 2, 3))), (is_bough, dict(calendar=LATE, some=(2, 3), d=1)),
+    (first_bough, dict(calendar=LATE, some=(2, 3))), (ever_bough, dict(calendar=LATE, some=(2, 3))),
+    (bare, dict(calendar=LATE, d=1)), (first_met, dict(calendar=LATE, x=3)), (sisters, dict(calendar=LATE, x=3, y=2)),
+    (twins, dict(calendar=LATE)), (bough_mean, dict(calendar=LATE, d=2, x=3)),
+    (depth_chances, dict(calendar=LATE, x=3)), (depth_mean, dict(calendar=LATE, x=3)),
+    (line_sizes, dict(calendar=LATE, d=1, x=3)), (spectrum, dict(calendar=LATE, d=1)),
     (rest_tree, dict(calendar=LATE, tree=TREE, d=1)), (bough_tree, dict(calendar=LATE, tree=TREE, d=3, x=1)),
 ]
 CALENDARS = [
