@@ -7,7 +7,7 @@ from itertools import combinations, product
 from math import gcd
 
 from datedlines.calendars import Calendar, made_calendar
-from datedlines.errors import Refused
+from datedlines.errors import BadFamily, Refused, TooMany
 
 # Values built from tuples, texts and numbers that are no tuple of numbers.
 ODD = (True, False, "", "change", "2", 0, 1, -7, 10 ** 40, ("",), ("a", 2), ((2,),), (True,), (2, True), (((2,),),))
@@ -22,6 +22,25 @@ LONG = (2,) * 10 ** 5
 # What is no set of plain(4), and the index that BadSet tells.
 WRONG_SETS = (((), 0), ((4,), 0), ((-1, 0), 0), ((0, 4), 1), ((0, 0), 1), ((2, 1, 9), 1), ((0, 1, 2, 3, 4), 4),
               ((0, 3, 2), 2), ((10 ** 40,), 0))
+
+# What is no family of plain(4), and the error.
+WRONG_FAMILIES = (((), TooMany, 0), (((0, 1), (2, 3), (0, 1, 2, 3), (0, 2), (1,)), TooMany, 5), (((),), BadFamily, 0),
+                  (((0, 1), (2,)), BadFamily, 1), (((1, 0),), BadFamily, 0), (((0, 0),), BadFamily, 0),
+                  (((2, 3), (0, 4)), BadFamily, 1), (((-1, 0),), BadFamily, 0), (((0, 10 ** 40),), BadFamily, 0),
+                  (((0, 1), (2, 3), (0, 1)), BadFamily, 2), (((0, 1), (1, 2), (3,)), BadFamily, 1),
+                  (((0, 1), (0, 1, 2), (0, 2)), BadFamily, 2), (((0, 1, 2), (0, 2), (1, 2, 3)), BadFamily, 2))
+
+# What are no dates of plain(3), and what BadDates tells.
+WRONG_DATES = ((((5,), ()), (2, 1)), (((9, 5, 9), (0, 0, 0)), (2, 3)), (((), ()), (2, 0)), (((9, 5), (0, 0)), (3, 2)),
+               (((9, 5), (0, 0, 0, 0)), (3, 4)), (((9, 5), (9, 9, 9)), (0, 1)), (((5, 5), (0, 0, 0)), (0, 1)),
+               (((10 ** 13, 5), (6, 6, 6)), (0, 0)), (((5, 9), (0, 6, 7)), (1, 1)), (((5, 9), (6, 6, 0)), (1, 0)),
+               (((5, 9), (0, 0, 6)), (1, 2)), (((-5, -2), (-5, -10 ** 13, 0)), (1, 1)))
+
+# What is no wood, of however many leaves.
+NO_WOODS = ((), (1,), (0, 2), (0, 0), (1, 0), (0, 1, 1), ((0,), 1), ((0,),), ((),), (0, ()), (0, (), 1), ((1, 0),),
+            (1, (0, 2)), ((1, 2), 0), ((0, (2, 1)),), (((1, 2), (0, 3)),), ((0, 1), (0, 1)), ((0, 1), (1, 2)), (-1, 0),
+            (0, -1), (0, 10 ** 40), (0, True), (False, 1), ((False, True),), (False,), (0, "1"), ("0",), (0, ("1", 2)),
+            (((0, 1),),), ((((0, 1), 2), 3), 5), tuple(range(13)), (tuple(range(13)),), (None, 0), ((0, 1), None))
 
 
 class Case(unittest.TestCase):
@@ -218,3 +237,53 @@ def line_of(lots, x):
         if x in lot:
             return lot
     return None
+
+
+def families_of(n):
+    """All families of sets of n leaves, their sets in one order each."""
+    sets = [frozenset(some) for some in subsets(range(n), 2)]
+    found = []
+    for many in range(1, 5):
+        for family in combinations(sets, many):
+            if all(not one & two or one < two or two < one for one, two in combinations(family, 2)):
+                found.append(tuple(tuple(sorted(some)) for some in family))
+    # Each second one with its sets the other way round, as their order is free.
+    return [family[::-1] if i % 2 else family for i, family in enumerate(found)]
+
+
+def dates_of(calendar, start):
+    """Dates of a calendar from start on: at odd distances, each second leaf born at the last date that may be."""
+    days_at = tuple(start + 3 * d + d * d for d in range(len(calendar.days)))
+    born_at = []
+    for x, moment in enumerate(calendar.born):
+        last = days_at[moment] if moment < len(days_at) else (days_at[-1] if days_at else start) + x + 1
+        first = days_at[moment - 1] + 1 if moment else last - x
+        born_at.append(last if x % 2 else first)
+    return (days_at, tuple(born_at))
+
+
+def all_shapes(leaves):
+    """All shapes of these leaves, at least one."""
+    return list(leaves) if len(leaves) == 1 else lots_begun(leaves, len(leaves) - 1)
+
+
+def all_lots(leaves):
+    """All tuples of shapes that have these leaves together, ascending by their least leaves."""
+    return lots_begun(leaves, len(leaves)) if leaves else [()]
+
+
+def lots_begun(leaves, most):
+    """Those of them whose first shape has at most so many leaves."""
+    found = []
+    for many in range(most):
+        for others in combinations(leaves[1:], many):
+            later_leaves = tuple(x for x in leaves[1:] if x not in others)
+            for shape in all_shapes(leaves[:1] + others):
+                found.extend([(shape,) + later for later in all_lots(later_leaves)])
+    return found
+
+
+@lru_cache(maxsize=None)
+def all_woods(n):
+    """All woods of n leaves."""
+    return all_lots(tuple(range(n)))

@@ -8,12 +8,19 @@ from datedlines.boughs import ever_bough, first_bough, is_bough
 from datedlines.calendarlooks import is_level, is_plain, plain, star
 from datedlines.calendars import Calendar, days_many, leaves_many, made_calendar, renamed
 from datedlines.classes import class_of, unlike_days
+from datedlines.datemeans import meeting_mean, pairs_mean, way_mean
+from datedlines.dates import made_dates
 from datedlines.deeds import changing, offers
 from datedlines.depthchances import bough_mean, depth_chances, depth_mean
+from datedlines.depths import depth_rows, kraft, row_count
 from datedlines.done import done
 from datedlines.draws import drawn
+from datedlines.families import together
 from datedlines.glue import glued
 from datedlines.heads import headed, heads_many
+from datedlines.histories import histories, next_tree
+from datedlines.hooks import hooks, plain_histories
+from datedlines.lengths import total_length
 from datedlines.meetings import meeting, partners
 from datedlines.nearest import balls, fewest
 from datedlines.nthgroups import groups_rank, nth_groups
@@ -25,17 +32,23 @@ from datedlines.rests import bough_tree, rest, rest_tree
 from datedlines.runs import run_between, walked
 from datedlines.runsjudged import run_right
 from datedlines.setlines import all_met, set_lines
+from datedlines.shapes import made_wood, shape_of
 from datedlines.shares import mean, minus, plus, share, times
 from datedlines.spectrum import line_sizes, spectrum
+from datedlines.toldboughs import told_boughs, told_share
 from datedlines.treelines import behind_lines, bough_of, lines
 from datedlines.treelooks import renamed_tree
 from datedlines.treeroads import depth, joints, met_on, path
 from datedlines.trees import is_tree, made_tree
+from datedlines.twosets import first_mix, two_sets
 
 LATE = Calendar((0, 0, 1, 1, 2), ((2,), (2,), (3,)))
 TREE = (((0, 1),), ((2, 3),), ((0, 2, 4),))
 OTHER = (((0, 1),), ((0, 3),), ((0, 2, 4),))
 DEED = ("change", 1, 0, 3)
+FAMILY = ((2, 3), (0, 1))
+DATES = ((10, 20, 30), (0, 10, 15, 20, 21))
+WOOD = (((0, 1), (2, 3), 4),)
 
 NUMBERS = [
     (choose, dict(a=5, b=2)), (met, dict(pattern=(3, 2))), (less, dict(pattern=(3, 2))),
@@ -45,11 +58,15 @@ NUMBERS = [
     (size, dict(calendar=LATE)), (groups_rank, dict(names=(0, 1, 2), pattern=(2,), row=((0, 2),))),
     (tree_rank, dict(calendar=LATE, tree=TREE)), (heads_many, dict(calendar=LATE, d=2)),
     (unlike_days, dict(calendar=LATE, one=TREE, two=OTHER)), (fewest, dict(calendar=LATE, one=TREE, two=OTHER)),
+    (told_boughs, dict(calendar=LATE, family=FAMILY)), (total_length, dict(calendar=LATE, dates=DATES)),
+    (histories, dict(calendar=LATE, wood=WOOD)), (hooks, dict(wood=WOOD)), (plain_histories, dict(wood=((0, 1),))),
+    (row_count, dict(n=5, r=2)),
 ]
 ANSWERS = [
     (is_pattern, dict(thing=(2,))), (is_pattern, dict(thing=3)), (is_plain, dict(calendar=LATE)),
     (is_level, dict(calendar=plain(1))), (is_tree, dict(calendar=LATE, thing=TREE)),
-    (is_tree, dict(calendar=LATE, thing=0)),
+    (is_tree, dict(calendar=LATE, thing=0)), (together, dict(calendar=LATE, tree=TREE, family=FAMILY)),
+    (together, dict(calendar=LATE, tree=TREE, family=((0, 2),))),
     (run_right, dict(calendar=LATE, tree=TREE, run=(), goal=TREE)),
     (run_right, dict(calendar=LATE, tree=0, run=0, goal=0)),
 ]
@@ -75,6 +92,12 @@ TUPLES = [
     (twins, dict(calendar=LATE)), (bough_mean, dict(calendar=LATE, d=2, x=3)),
     (depth_chances, dict(calendar=LATE, x=3)), (depth_mean, dict(calendar=LATE, x=3)),
     (line_sizes, dict(calendar=LATE, d=1, x=3)), (spectrum, dict(calendar=LATE, d=1)),
+    (two_sets, dict(calendar=LATE, one=(0, 2), two=(3,), d=1)), (first_mix, dict(calendar=LATE, one=(0, 2), two=(3,))),
+    (told_share, dict(calendar=LATE, family=FAMILY)), (made_dates, dict(calendar=LATE, dates=DATES)),
+    (meeting_mean, dict(calendar=LATE, dates=DATES, x=3, y=2)), (way_mean, dict(calendar=LATE, dates=DATES, x=3, y=2)),
+    (pairs_mean, dict(calendar=LATE, dates=DATES)), (shape_of, dict(calendar=LATE, tree=TREE)),
+    (made_wood, dict(n=5, thing=WOOD)), (next_tree, dict(calendar=LATE, wood=WOOD)),
+    (kraft, dict(depths=(1, 2, 2), r=2)), (depth_rows, dict(n=5, r=2)),
     (rest_tree, dict(calendar=LATE, tree=TREE, d=1)), (bough_tree, dict(calendar=LATE, tree=TREE, d=3, x=1)),
 ]
 CALENDARS = [

@@ -37,6 +37,16 @@ boughs: is_bough(calendar, some, d) first_bough(calendar, some) ever_bough(calen
 bare: bare(calendar, d) first_met(calendar, x) sisters(calendar, x, y) twins(calendar)
 depthchances: bough_mean(calendar, d, x) depth_chances(calendar, x) depth_mean(calendar, x)
 spectrum: line_sizes(calendar, d, x) spectrum(calendar, d)
+twosets: two_sets(calendar, one, two, d) first_mix(calendar, one, two)
+families: together(calendar, tree, family)
+toldboughs: told_boughs(calendar, family) told_share(calendar, family)
+dates: made_dates(calendar, dates)
+datemeans: meeting_mean(calendar, dates, x, y) way_mean(calendar, dates, x, y) pairs_mean(calendar, dates)
+lengths: total_length(calendar, dates)
+shapes: shape_of(calendar, tree) made_wood(n, thing)
+histories: histories(calendar, wood) next_tree(calendar, wood)
+hooks: hooks(wood) plain_histories(wood)
+depths: kraft(depths, r) depth_rows(n, r) row_count(n, r)
 rests: rest(calendar, d) rest_tree(calendar, tree, d) bough_tree(calendar, tree, d, x)
 """
 

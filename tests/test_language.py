@@ -17,6 +17,7 @@ any all divmod pow map Exception ValueError TypeError KeyError IndexError Lookup
 METHODS = """append clear copy count endswith extend find get index insert isalnum isalpha isdigit islower isspace
 isupper items join keys ljust lower lstrip partition pop remove replace reverse rfind rjust rpartition rsplit rstrip
 setdefault split splitlines startswith strip update upper values zfill bit_length add discard""".split()
+VIEWS = "range zip enumerate reversed items keys values".split()
 BARRED_NODES = (ast.Import, ast.Global, ast.AsyncFunctionDef, ast.AsyncFor, ast.AsyncWith, ast.Await, ast.Div,
                 ast.MatMult, ast.Yield, ast.YieldFrom, ast.GeneratorExp, ast.Set, ast.AnnAssign)
 BARRED_WORDS = """type typing enum Enum Generic Protocol ABC namedtuple NamedTuple TypedDict dataclass overload
@@ -58,6 +59,11 @@ def top_names(tree):
         elif isinstance(part, ast.Assign):
             found.extend([target.id for target in part.targets])
     return found
+
+
+def called(node):
+    """The name of the function or method that is called."""
+    return node.func.id if isinstance(node.func, ast.Name) else getattr(node.func, "attr", None)
 
 
 def bound_in(function):
@@ -163,6 +169,47 @@ class LanguageTest(unittest.TestCase):
                     self.assertIn(node.func.attr, METHODS + ["__init__"], name)
                 if isinstance(node, ast.Call) and isinstance(node.func, ast.Name):
                     self.assertIn(node.func.id, own + BUILTINS, name)
+
+    def test_ranges_and_views_are_iterated_at_once(self):
+        takers = "list tuple dict sorted sum any all enumerate zip min max len reversed product".split()
+        for name, tree in trees_of_all():
+            fine = []
+            for node in ast.walk(tree):
+                if isinstance(node, (ast.For, ast.comprehension)):
+                    fine.append(node.iter)
+                if isinstance(node, ast.Call) and isinstance(node.func, ast.Name) and node.func.id in takers:
+                    fine.extend(node.args)
+                if isinstance(node, ast.Compare):
+                    fine.extend(node.comparators)
+            for node in ast.walk(tree):
+                if isinstance(node, ast.Call) and called(node) in VIEWS:
+                    self.assertIn(node, fine, (name, node.lineno))
+
+    def test_sets_stand_in_sorted_and_len(self):
+        for name, tree in trees_of_all():
+            fine = []
+            for node in ast.walk(tree):
+                if isinstance(node, ast.Call) and called(node) in ("sorted", "len") and node.keywords == []:
+                    fine.extend(node.args)
+                if isinstance(node, ast.Compare):
+                    fine.extend(node.comparators)
+            for node in ast.walk(tree):
+                if isinstance(node, ast.SetComp) or isinstance(node, ast.Call) and called(node) == "set":
+                    self.assertIn(node, fine, (name, node.lineno))
+
+    def test_combinations_are_of_plain_numbers(self):
+        for name, tree in trees_of_all():
+            for function in [node for node in ast.walk(tree) if isinstance(node, ast.FunctionDef)]:
+                plain = [argument.arg for argument in function.args.args]
+                for node in ast.walk(function):
+                    if isinstance(node, ast.Assign) and isinstance(node.value, ast.Call):
+                        if called(node.value) in ("len", "int") and isinstance(node.targets[0], ast.Name):
+                            plain.append(node.targets[0].id)
+                for node in ast.walk(function):
+                    if isinstance(node, ast.Call) and called(node) in ("combinations", "permutations"):
+                        for many in node.args[1:]:
+                            is_plain = isinstance(many, ast.Constant) or isinstance(many, ast.Name) and many.id in plain
+                            self.assertTrue(is_plain, (name, node.lineno))
 
     def test_local_names(self):
         for name, tree in trees_of_all():
