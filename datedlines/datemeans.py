@@ -1,7 +1,6 @@
 """At which dates leaves meet in the mean."""
 
 from datedlines.calendars import days_many, leaves_many
-from datedlines.checks import ask_two_leaves
 from datedlines.dates import made_dates
 from datedlines.meetings import meeting
 from datedlines.shares import mean, minus, plus, share, times
@@ -9,9 +8,7 @@ from datedlines.shares import mean, minus, plus, share, times
 
 def meeting_mean(calendar, dates, x, y):
     """Return the mean date at which two leaves meet, over the trees in which they do; None if they never do."""
-    made_dates(calendar, dates)
-    ask_two_leaves(calendar, x, y)
-    days_at, _ = dates
+    days_at, _ = made_dates(calendar, dates)
     total = (0, 1)
     ever = (0, 1)
     for d, one in meeting(calendar, x, y):

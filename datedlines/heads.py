@@ -2,10 +2,10 @@
 
 from datedlines.calendars import days_many
 from datedlines.checks import ask_moment
-from datedlines.errors import BadRow, BadSize
+from datedlines.errors import BadSize
 from datedlines.nthtree import head_rank
-from datedlines.numbers import size, ways_of_days
-from datedlines.trees import first_bad_row
+from datedlines.numbers import size, ways_ahead
+from datedlines.trees import ask_rows
 
 
 def headed(calendar, rows):
@@ -19,15 +19,10 @@ def ask_head(calendar, rows):
     """Raise BadSize or BadRow unless the rows are a head of the calendar."""
     if len(rows) > days_many(calendar):
         raise BadSize(len(rows))
-    d = first_bad_row(calendar, rows)
-    if d is not None:
-        raise BadRow(d)
+    ask_rows(calendar, rows)
 
 
 def heads_many(calendar, d):
     """Return the number of heads of d rows."""
     ask_moment(d, days_many(calendar))
-    heads = 1
-    for many in ways_of_days(calendar)[:d]:
-        heads = heads * many
-    return heads
+    return ways_ahead(calendar, d)

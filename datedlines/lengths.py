@@ -7,8 +7,7 @@ from datedlines.dates import made_dates
 
 def total_length(calendar, dates):
     """Return the sum of the lengths of all leaves and of all lines that come about."""
-    made_dates(calendar, dates)
-    days_at, born_at = dates
+    days_at, born_at = made_dates(calendar, dates)
     total = 0
     for d in range(days_many(calendar)):
         if d > 0:

@@ -9,10 +9,15 @@ def made_tree(calendar, rows):
     """Return the rows if they are a tree of the calendar."""
     if len(rows) != days_many(calendar):
         raise BadSize(len(rows))
+    ask_rows(calendar, rows)
+    return rows
+
+
+def ask_rows(calendar, rows):
+    """Raise BadRow for the first row that is not one of a tree, with those before it."""
     d = first_bad_row(calendar, rows)
     if d is not None:
         raise BadRow(d)
-    return rows
 
 
 def is_tree(calendar, thing):

@@ -77,6 +77,7 @@ class MeetingMeanTest(Case):
             for function in (meeting_mean, way_mean):
                 self.refused(BadDates, what, function, plain(3), dates, 99, 99)
             self.refused(BadDates, what, pairs_mean, plain(3), dates)
+        self.refused(BadDates, (3, 2), pairs_mean, SINGLE, ((), (5, 5)))
 
     def test_leaves_wrong(self):
         for function in (meeting_mean, way_mean):

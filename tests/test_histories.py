@@ -43,6 +43,13 @@ class HistoriesTest(Case):
         self.assertEqual(histories(PAIRS, EVEN), 1)
         self.assertEqual(histories(PAIRS, CHAIN), 0)
 
+    def test_the_least_row_that_goes_on(self):
+        # The joint of 0 and 1 could be done first, but then three lines could not meet on the second day.
+        calendar = Calendar((0,) * 6, ((2,), (3,), (2,)))
+        wood = ((0, 1), ((2, 3), 4, 5))
+        self.assertEqual(histories(calendar, wood), 1)
+        self.assertEqual(next_tree(calendar, wood), (((2, 3),), ((2, 4, 5),), ((0, 1),)))
+
     def test_against_all_trees(self):
         calendars = small_calendars(4, 3) + small_calendars(5, 2)[::9] + [plain(4), plain(5), LATE, TWO_LEFT, PAIRS]
         for calendar in calendars:
@@ -58,8 +65,8 @@ class HistoriesTest(Case):
             self.assertEqual(total, size(calendar))
 
     def test_groups_of_several_sizes(self):
-        calendar = Calendar((0, 0, 0, 0, 1, 1, 2), ((2, 2), (3,), (2, 2)))
-        for calendar in (MIXED, calendar):
+        for calendar in (MIXED, Calendar((0, 0, 0, 0, 1, 1, 2), ((2, 2), (3,), (2, 2))),
+                         Calendar((0,) * 6, ((2,), (3,), (2,)))):
             trees_of = {}
             for tree in listed_trees(calendar):
                 wood = shape_of(calendar, tree)
