@@ -2,8 +2,7 @@
 
 from datedlines.alive import alive
 from datedlines.calendars import days_many
-from datedlines.checks import ask_moment, ask_set
-from datedlines.errors import BadSet
+from datedlines.checks import ask_moment, ask_set, ask_set_of_several
 from datedlines.polynomials import whole
 from datedlines.setlines import last_birth, over_day, with_born
 from datedlines.shares import pairs_of, plus
@@ -23,9 +22,7 @@ def is_bough(calendar, some, d):
 
 def first_bough(calendar, some):
     """Return the pairs (d, share) of the first day behind which the set is a line."""
-    ask_set(calendar, some)
-    if len(some) == 1:
-        raise BadSet(1)
+    ask_set_of_several(calendar, some)
     found = {}
     now = {0: (1, 1)}
     for d in range(days_many(calendar)):

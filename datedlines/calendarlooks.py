@@ -2,7 +2,7 @@
 
 from datedlines.alive import alive, ends
 from datedlines.calendars import Calendar
-from datedlines.checks import MOST_LEAVES, is_from_to
+from datedlines.checks import MOST_LEAVES, ask_leaves_many, is_from_to
 from datedlines.errors import BadSize
 from datedlines.patterns import met
 
@@ -25,8 +25,7 @@ def is_level(calendar):
 
 def plain(n):
     """Return the calendar of n leaves born 0 and n - 1 days (2,)."""
-    if not is_from_to(n, 1, MOST_LEAVES):
-        raise BadSize(n)
+    ask_leaves_many(n)
     return Calendar((0,) * n, ((2,),) * (n - 1))
 
 

@@ -59,6 +59,11 @@ def newborn(calendar, d):
     return tuple([x for x, moment in enumerate(calendar.born) if moment == d])
 
 
+def births_among(calendar, some, days):
+    """Return the births of some leaves where these days alone are left: how many of them lie ahead of each."""
+    return tuple([len([d for d in days if d < calendar.born[x]]) for x in some])
+
+
 def renamed(calendar, places):
     """Return the calendar in which leaf p has become the leaf places[p], with its birth."""
     many = leaves_many(calendar)

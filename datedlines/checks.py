@@ -20,10 +20,21 @@ def is_rising(names):
     return all([one < two for one, two in zip(names, names[1:])])
 
 
+def is_falling(sizes):
+    """Tell whether none of these numbers is above the one before it."""
+    return all([one >= two for one, two in zip(sizes, sizes[1:])])
+
+
 def ask_size(k):
     """Raise BadSize unless k is a number of things, from 0 to 12."""
     if not is_from_to(k, 0, MOST_LEAVES):
         raise BadSize(k)
+
+
+def ask_leaves_many(n):
+    """Raise BadSize unless n is a number of leaves, from 1 to 12."""
+    if not is_from_to(n, 1, MOST_LEAVES):
+        raise BadSize(n)
 
 
 def ask_moment(d, last):
@@ -60,3 +71,10 @@ def ask_set(calendar, some):
     for i, x in enumerate(some):
         if not is_from_to(x, 0, len(calendar.born) - 1) or (i > 0 and x <= some[i - 1]):
             raise BadSet(i)
+
+
+def ask_set_of_several(calendar, some):
+    """Raise BadSet unless some is a set of at least two leaves of the calendar."""
+    ask_set(calendar, some)
+    if len(some) == 1:
+        raise BadSet(1)

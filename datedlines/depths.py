@@ -1,6 +1,6 @@
 """Rows of depths that are those of the leaves of a tree whose joints all have r lines."""
 
-from datedlines.checks import MOST_LEAVES, is_from_to
+from datedlines.checks import MOST_LEAVES, ask_leaves_many, is_from_to
 from datedlines.errors import BadCount, BadDepth, BadSize
 from datedlines.shares import plus, share
 
@@ -44,22 +44,16 @@ def _power(r, h):
 
 def depth_rows(n, r):
     """Return all rows of n depths that are whole for r and never rise, ascending."""
-    _ask_leaves(n)
+    ask_leaves_many(n)
     ask_lines(r)
     return tuple(sorted(_rows_below(1, n, 0, r)))
 
 
 def row_count(n, r):
     """Return the number of these rows."""
-    _ask_leaves(n)
+    ask_leaves_many(n)
     ask_lines(r)
     return _rows_many(1, n, r, {})
-
-
-def _ask_leaves(n):
-    """Raise BadSize unless n is a number of leaves."""
-    if not is_from_to(n, 1, MOST_LEAVES):
-        raise BadSize(n)
 
 
 def _ends(lines, n, r):

@@ -2,7 +2,7 @@
 
 from math import comb, factorial, perm
 
-from datedlines.checks import ask_size, is_number
+from datedlines.checks import ask_size, is_falling, is_number
 from datedlines.errors import BadDay
 
 
@@ -17,9 +17,7 @@ def is_pattern(thing):
     """Tell whether the thing is a tuple of sizes, from 2 on, that never rises."""
     if not isinstance(thing, tuple):
         return False
-    if not all([is_number(s) and s >= 2 for s in thing]):
-        return False
-    return all([one >= two for one, two in zip(thing, thing[1:])])
+    return all([is_number(s) and s >= 2 for s in thing]) and is_falling(thing)
 
 
 def ask_pattern(pattern):

@@ -1,11 +1,11 @@
 """What is left of calendars and trees from a moment on, or of one line."""
 
 from datedlines.alive import alive
-from datedlines.calendars import Calendar, days_many
+from datedlines.calendars import Calendar, births_among, days_many
 from datedlines.checks import ask_born_leaf, ask_moment
 from datedlines.treelines import line_with, lines_at
 from datedlines.treelooks import rewritten
-from datedlines.trees import made_tree, names_at
+from datedlines.trees import made_tree, names_at, sizes_of
 
 
 def rest(calendar, d):
@@ -41,7 +41,5 @@ def bough_tree(calendar, tree, d, x):
     # A group ahead of day d that has a name of a leaf of the line lies within the line.
     rows = [tuple([group for group in row if group[0] in bough]) for row in tree[:d]]
     days = [e for e, row in enumerate(rows) if len(row) > 0]
-    born = [len([e for e in days if e < calendar.born[leaf]]) for leaf in bough]
-    patterns = [tuple(sorted([len(group) for group in rows[e]], reverse=True)) for e in days]
-    small = Calendar(tuple(born), tuple(patterns))
+    small = Calendar(births_among(calendar, bough, days), tuple([sizes_of(rows[e]) for e in days]))
     return small, rewritten([rows[e] for e in days], {leaf: i for i, leaf in enumerate(bough)})

@@ -1,8 +1,8 @@
 """Shapes and woods: trees without their days."""
 
 from datedlines.calendars import newborn
-from datedlines.checks import MOST_LEAVES, is_from_to
-from datedlines.errors import BadShape, BadSize
+from datedlines.checks import MOST_LEAVES, ask_leaves_many, is_from_to
+from datedlines.errors import BadShape
 from datedlines.trees import made_tree
 
 
@@ -21,8 +21,7 @@ def shape_of(calendar, tree):
 
 def made_wood(n, thing):
     """Return the thing if it is a wood of n leaves."""
-    if not is_from_to(n, 1, MOST_LEAVES):
-        raise BadSize(n)
+    ask_leaves_many(n)
     if wood_size(thing) != n:
         raise BadShape(0)
     return thing

@@ -39,11 +39,20 @@ def first_bad_row(calendar, rows):
 
 def is_row(names, pattern, row):
     """Tell whether the row has groups of these names with the sizes of the pattern, in order."""
+    return are_groups(names, row) and sizes_of(row) == pattern
+
+
+def are_groups(names, row):
+    """Tell whether the row is a tuple of groups of these names, in order, that have no name in common."""
     if not isinstance(row, tuple) or not all([is_group(names, group) for group in row]):
         return False
-    sizes = sorted([len(group) for group in row], reverse=True)
     taken = [name for group in row for name in group]
-    return tuple(sizes) == pattern and is_rising(row) and len(set(taken)) == len(taken)
+    return is_rising(row) and len(set(taken)) == len(taken)
+
+
+def sizes_of(row):
+    """Return the sizes of the groups of a row, falling."""
+    return tuple(sorted([len(group) for group in row], reverse=True))
 
 
 def is_group(names, group):

@@ -7,7 +7,7 @@ from itertools import combinations, product
 from math import gcd
 
 from datedlines.calendars import Calendar, made_calendar
-from datedlines.errors import BadFamily, Refused, TooMany
+from datedlines.errors import BadFamily, BadRow, BadSize, Refused, TooMany
 
 # Values built from tuples, texts and numbers that are no tuple of numbers.
 ODD = (True, False, "", "change", "2", 0, 1, -7, 10 ** 40, ("",), ("a", 2), ((2,),), (True,), (2, True), (((2,),),))
@@ -18,6 +18,9 @@ for _ in range(99):
 
 LONG = (2,) * 10 ** 5
 
+
+# A tree of plain(4).
+TREE = (((0, 1),), ((2, 3),), ((0, 2),))
 
 # What is no set of plain(4), and the index that BadSet tells.
 WRONG_SETS = (((), 0), ((4,), 0), ((-1, 0), 0), ((0, 4), 1), ((0, 0), 1), ((2, 1, 9), 1), ((0, 1, 2, 3, 4), 4),
@@ -51,6 +54,16 @@ class Case(unittest.TestCase):
         self.assertIs(caught.exception.__class__, error)
         self.assertEqual(caught.exception.what, what)
         self.assertIs(caught.exception.what.__class__, what.__class__)
+
+    def refuses_trees(self, function, *more):
+        """Ask that the function raises a tree's errors of its second argument, whatever stands behind it."""
+        plain_four = Calendar((0,) * 4, ((2,),) * 3)
+        for rows in ((), TREE[:2], TREE + (((0, 1),),), ("",) * 4):
+            self.refused(BadSize, len(rows), function, plain_four, rows, *more)
+        for odd in ODD + (((1, 0),), ((0, 4),), ((0, 1), (2, 3)), ((0, 1, 2),), (), DEEP, LONG):
+            self.refused(BadRow, 0, function, plain_four, (odd, "", TREE[2]), *more)
+        for odd in ODD + (((0, 1),), ((1, 2),), DEEP):
+            self.refused(BadRow, 1, function, plain_four, (TREE[0], odd, odd), *more)
 
     def assert_chances(self, pairs, total=(1, 1)):
         """Ask that the pairs ascend, and that their shares are above 0, in lowest terms, and have this sum."""
@@ -169,6 +182,21 @@ def exchanged_sets(calendar, tree, d, a, b):
         groups = [tuple(sorted(name_of[name] for name in group)) for group in tree[e]]
         rows.append(tuple(sorted(groups)))
     return tuple(rows)
+
+
+@lru_cache(maxsize=None)
+def _trees_of(born, days):
+    return tuple(listed_trees(Calendar(born, days)))
+
+
+def trees_of(calendar):
+    """All trees of a calendar, ascending, listed once."""
+    return _trees_of(calendar.born, calendar.days)
+
+
+def unfolded(joint, lots):
+    """A joint whose leaves are told by the sets that they stand for."""
+    return frozenset(frozenset(x for leaf in line for x in lots[leaf]) for line in joint)
 
 
 def joint_sets(calendar, tree):

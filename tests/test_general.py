@@ -3,14 +3,19 @@
 import unittest
 
 from datedlines.alive import alive, behind, ends
+from datedlines.allcalendars import calendar_rank, calendars_count, nth_calendar
 from datedlines.bare import bare, first_met, sisters, twins
 from datedlines.boughs import ever_bough, first_bough, is_bough
 from datedlines.calendarlooks import is_level, is_plain, plain, star
 from datedlines.calendars import Calendar, days_many, leaves_many, made_calendar, renamed
+from datedlines.chains import chains, stirling
 from datedlines.classes import class_of, unlike_days
+from datedlines.cuts import cut, placed
+from datedlines.cutshares import cut_count, cut_share
 from datedlines.datemeans import meeting_mean, pairs_mean, way_mean
 from datedlines.dates import made_dates
 from datedlines.deeds import changing, offers
+from datedlines.depthcalendars import depth_calendar, depths_of
 from datedlines.depthchances import bough_mean, depth_chances, depth_mean
 from datedlines.depths import depth_rows, kraft, row_count
 from datedlines.done import done
@@ -26,6 +31,8 @@ from datedlines.nearest import balls, fewest
 from datedlines.nthgroups import groups_rank, nth_groups
 from datedlines.nthtree import nth_tree, tree_rank
 from datedlines.numbers import size
+from datedlines.ordered import made_ordered, nth_ordered, ordered_rank, ordered_size, plain_of
+from datedlines.orderedwords import ordered_of_words, words_of
 from datedlines.patterns import choose, is_pattern, less, met, patterns, ways
 from datedlines.polynomials import poly_times, touched, whole
 from datedlines.rests import bough_tree, rest, rest_tree
@@ -34,6 +41,7 @@ from datedlines.runsjudged import run_right
 from datedlines.setlines import all_met, set_lines
 from datedlines.shapes import made_wood, shape_of
 from datedlines.shares import mean, minus, plus, share, times
+from datedlines.sides import apart_share, beside, unmixed, woven
 from datedlines.spectrum import line_sizes, spectrum
 from datedlines.toldboughs import told_boughs, told_share
 from datedlines.treelines import behind_lines, bough_of, lines
@@ -41,6 +49,8 @@ from datedlines.treelooks import renamed_tree
 from datedlines.treeroads import depth, joints, met_on, path
 from datedlines.trees import is_tree, made_tree
 from datedlines.twosets import first_mix, two_sets
+from datedlines.words import words
+from datedlines.wordtrees import wood_of_words
 
 LATE = Calendar((0, 0, 1, 1, 2), ((2,), (2,), (3,)))
 TREE = (((0, 1),), ((2, 3),), ((0, 2, 4),))
@@ -49,6 +59,9 @@ DEED = ("change", 1, 0, 3)
 FAMILY = ((2, 3), (0, 1))
 DATES = ((10, 20, 30), (0, 10, 15, 20, 21))
 WOOD = (((0, 1), (2, 3), 4),)
+ORDERED = (((1, 0),), ((2, 3),), ((4, 0, 2),))
+WEAVE = (0, 1, 0, 2)
+SECOND = (((0, 1),), ((0, 2),))
 
 NUMBERS = [
     (choose, dict(a=5, b=2)), (met, dict(pattern=(3, 2))), (less, dict(pattern=(3, 2))),
@@ -60,7 +73,11 @@ NUMBERS = [
     (unlike_days, dict(calendar=LATE, one=TREE, two=OTHER)), (fewest, dict(calendar=LATE, one=TREE, two=OTHER)),
     (told_boughs, dict(calendar=LATE, family=FAMILY)), (total_length, dict(calendar=LATE, dates=DATES)),
     (histories, dict(calendar=LATE, wood=WOOD)), (hooks, dict(wood=WOOD)), (plain_histories, dict(wood=((0, 1),))),
-    (row_count, dict(n=5, r=2)),
+    (row_count, dict(n=5, r=2)), (ordered_size, dict(calendar=LATE)),
+    (ordered_rank, dict(calendar=LATE, ordered=ORDERED)), (calendars_count, dict(k=5)),
+    (calendar_rank, dict(calendar=plain(4))), (stirling, dict(k=5, j=2)), (chains, dict(k=5)),
+    (unmixed, dict(calendar=LATE, some=(2, 3))),
+    (cut_count, dict(calendar=LATE, some=(2, 3), small=plain(2), days=(1,))),
 ]
 ANSWERS = [
     (is_pattern, dict(thing=(2,))), (is_pattern, dict(thing=3)), (is_plain, dict(calendar=LATE)),
@@ -99,10 +116,21 @@ TUPLES = [
     (made_wood, dict(n=5, thing=WOOD)), (next_tree, dict(calendar=LATE, wood=WOOD)),
     (kraft, dict(depths=(1, 2, 2), r=2)), (depth_rows, dict(n=5, r=2)),
     (rest_tree, dict(calendar=LATE, tree=TREE, d=1)), (bough_tree, dict(calendar=LATE, tree=TREE, d=3, x=1)),
+    (depths_of, dict(calendar=LATE, tree=TREE)), (words, dict(calendar=LATE, tree=TREE)),
+    (wood_of_words, dict(rows=((0, 1), (0, 0), (1,)))), (made_ordered, dict(calendar=LATE, rows=ORDERED)),
+    (plain_of, dict(calendar=LATE, ordered=ORDERED)), (nth_ordered, dict(calendar=LATE, k=5)),
+    (words_of, dict(calendar=LATE, ordered=ORDERED)),
+    (ordered_of_words, dict(calendar=plain(2), rows=((0, 1), (0, 0)))),
+    (beside, dict(one=LATE, first=TREE, two=plain(3), second=SECOND, row=WEAVE)),
+    (apart_share, dict(one=LATE, two=plain(3), row=WEAVE)), (placed, dict(k=4, pattern=(2,), blocks=(2, 1))),
+    (cut, dict(calendar=LATE, tree=TREE, some=(1, 2, 4))),
+    (cut_share, dict(calendar=LATE, some=(2, 3), small=plain(2), days=(1,))),
 ]
 CALENDARS = [
     (made_calendar, dict(born=(0, 0), days=((2,),))), (renamed, dict(calendar=LATE, places=(1, 0, 2, 4, 3))),
     (plain, dict(n=3)), (star, dict(n=3)), (rest, dict(calendar=LATE, d=1)),
+    (depth_calendar, dict(depths=(1, 2, 2), r=2)), (nth_calendar, dict(k=5, i=7)),
+    (woven, dict(one=LATE, two=plain(3), row=WEAVE)),
 ]
 
 

@@ -65,7 +65,7 @@ class HistoriesTest(Case):
             self.assertEqual(total, size(calendar))
 
     def test_groups_of_several_sizes(self):
-        for calendar in (MIXED, Calendar((0, 0, 0, 0, 1, 1, 2), ((2, 2), (3,), (2, 2))),
+        for calendar in (MIXED, Calendar((0, 0, 0, 0, 1, 1, 2), ((2, 2), (3,), (2,))),
                          Calendar((0,) * 6, ((2,), (3,), (2,)))):
             trees_of = {}
             for tree in listed_trees(calendar):

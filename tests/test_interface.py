@@ -47,7 +47,18 @@ shapes: shape_of(calendar, tree) made_wood(n, thing)
 histories: histories(calendar, wood) next_tree(calendar, wood)
 hooks: hooks(wood) plain_histories(wood)
 depths: kraft(depths, r) depth_rows(n, r) row_count(n, r)
+depthcalendars: depth_calendar(depths, r) depths_of(calendar, tree)
+words: words(calendar, tree)
+wordtrees: wood_of_words(rows)
+ordered: made_ordered(calendar, rows) plain_of(calendar, ordered) ordered_rank(calendar, ordered)
+ordered: ordered_size(calendar) nth_ordered(calendar, k)
+orderedwords: words_of(calendar, ordered) ordered_of_words(calendar, rows)
+allcalendars: calendars_count(k) nth_calendar(k, i) calendar_rank(calendar)
+chains: stirling(k, j) chains(k)
+sides: woven(one, two, row) beside(one, first, two, second, row) apart_share(one, two, row) unmixed(calendar, some)
 rests: rest(calendar, d) rest_tree(calendar, tree, d) bough_tree(calendar, tree, d, x)
+cuts: placed(k, pattern, blocks) cut(calendar, tree, some)
+cutshares: cut_share(calendar, some, small, days) cut_count(calendar, some, small, days)
 """
 
 

@@ -61,6 +61,11 @@ def top_names(tree):
     return found
 
 
+def methods_of(node):
+    """The methods that stand in the body of a class."""
+    return [part for part in node.body if isinstance(part, ast.FunctionDef)]
+
+
 def called(node):
     """The name of the function or method that is called."""
     return node.func.id if isinstance(node.func, ast.Name) else getattr(node.func, "attr", None)
@@ -162,16 +167,18 @@ class LanguageTest(unittest.TestCase):
                 self.assertIsInstance(node.right, ast.Constant, name)
 
     def test_methods_and_builtins(self):
+        classes = [node for _, node in nodes() if isinstance(node, ast.ClassDef)]
+        methods = METHODS + [part.name for node in classes for part in methods_of(node)]
         for name, tree in trees_of_all():
             own = top_names(tree)
             for node in ast.walk(tree):
                 if isinstance(node, ast.Call) and isinstance(node.func, ast.Attribute):
-                    self.assertIn(node.func.attr, METHODS + ["__init__"], name)
+                    self.assertIn(node.func.attr, methods, name)
                 if isinstance(node, ast.Call) and isinstance(node.func, ast.Name):
                     self.assertIn(node.func.id, own + BUILTINS, name)
 
     def test_ranges_and_views_are_iterated_at_once(self):
-        takers = "list tuple dict sorted sum any all enumerate zip min max len reversed product".split()
+        takers = "list tuple dict sorted sum any all enumerate zip min max len reversed product combinations".split()
         for name, tree in trees_of_all():
             fine = []
             for node in ast.walk(tree):
@@ -238,9 +245,12 @@ class LanguageTest(unittest.TestCase):
         allowed = ["__init__", "__eq__", "__repr__", "__str__", "__len__"]
         for name, node in nodes():
             if isinstance(node, ast.ClassDef):
-                for part in node.body:
-                    if isinstance(part, ast.FunctionDef) and part.name.startswith("__"):
-                        self.assertIn(part.name, allowed, name)
+                own = [part.name for part in methods_of(node)]
+                self.assertEqual(len(set(own)), len(own), node.name)
+                self.assertEqual([word for word in own if word.startswith("__") and word not in allowed], [], name)
+                attributes = [part.attr for part in ast.walk(node)
+                              if isinstance(part, ast.Attribute) and isinstance(part.ctx, ast.Store)]
+                self.assertEqual([word for word in attributes if word in own], [], name)
 
 
 if __name__ == "__main__":

@@ -8,10 +8,9 @@ from datedlines.numbers import size
 from datedlines.patterns import ways
 from datedlines.rests import bough_tree, rest, rest_tree
 from datedlines.trees import is_tree
-from support import (LATE, LATE_TWELVE, MIXED, PLAIN_TWELVE, SINGLE, TWO_LEFT, WIDE, Case, calendar_of, joint_sets,
-                     listed_trees, sets_at, small_calendars)
+from support import (LATE, LATE_TWELVE, MIXED, PLAIN_TWELVE, SINGLE, TREE, TWO_LEFT, WIDE, Case, calendar_of,
+                     joint_sets, listed_trees, sets_at, small_calendars, unfolded)
 
-TREE = (((0, 1),), ((2, 3),), ((0, 2),))
 LATE_TREE = (((0, 1),), ((2, 3),), ((0, 2, 4),))
 
 
@@ -19,11 +18,6 @@ def lots_of_rest(calendar, tree, d):
     """For each leaf of rest the set of leaves that it stands for."""
     later = [frozenset([x]) for x, moment in enumerate(calendar.born) if moment > d]
     return [frozenset(lot) for lot in sets_at(calendar, tree, d)] + later
-
-
-def unfolded(joint, lots):
-    """A joint whose leaves are told by the sets that they stand for."""
-    return frozenset(frozenset(x for leaf in line for x in lots[leaf]) for line in joint)
 
 
 class RestTest(Case):
