@@ -315,3 +315,29 @@ def lots_begun(leaves, most):
 def all_woods(n):
     """All woods of n leaves."""
     return all_lots(tuple(range(n)))
+
+
+SIGNS = list("0129-+,;()ab \n\t\r_.") + ["10", "12", "13", "00", "\u0661", "\u00b2", "\u00a0", "\x0b", "\u2028", "%"]
+
+
+def changed_texts(text):
+    """The text with one sign, word or row changed, put in, left out or told twice; without the text itself."""
+    found = set()
+    for at in range(len(text) + 1):
+        for sign in SIGNS:
+            found.add(text[:at] + sign + text[at:])
+            found.add(text[:at] + sign + text[at + 1:])
+        found.add(text[:at] + text[at + 1:])
+        found.add(text[:at] + text[at:at + 1].upper() + text[at + 1:])
+    for mark in ("\n", " "):
+        parts = text.split(mark)
+        for i in range(len(parts)):
+            found.add(mark.join(parts[:i] + parts[i + 1:]))
+            found.add(mark.join(parts[:i] + [parts[i]] + parts[i:]))
+            found.add(mark.join(parts[:i] + [""] + parts[i:]))
+            found.add(mark.join(parts[i:] + parts[:i]))
+            for j in range(i):
+                swapped = list(parts)
+                swapped[i], swapped[j] = parts[j], parts[i]
+                found.add(mark.join(swapped))
+    return sorted(found - {text})

@@ -7,9 +7,11 @@ from datedlines.allcalendars import calendar_rank, calendars_count, nth_calendar
 from datedlines.bare import bare, first_met, sisters, twins
 from datedlines.boughs import ever_bough, first_bough, is_bough
 from datedlines.calendarlooks import is_level, is_plain, plain, star
+from datedlines.calendartext import calendar_of, calendar_text
 from datedlines.calendars import Calendar, days_many, leaves_many, made_calendar, renamed
 from datedlines.chains import chains, stirling
 from datedlines.classes import class_of, unlike_days
+from datedlines.cutlists import cuts_of
 from datedlines.cuts import cut, placed
 from datedlines.cutshares import cut_count, cut_share
 from datedlines.datemeans import meeting_mean, pairs_mean, way_mean
@@ -21,6 +23,8 @@ from datedlines.depths import depth_rows, kraft, row_count
 from datedlines.done import done
 from datedlines.draws import drawn
 from datedlines.families import together
+from datedlines.floor import Floor
+from datedlines.floorasks import can_go_home, kin, way_home
 from datedlines.glue import glued
 from datedlines.heads import headed, heads_many
 from datedlines.histories import histories, next_tree
@@ -38,18 +42,24 @@ from datedlines.polynomials import poly_times, touched, whole
 from datedlines.rests import bough_tree, rest, rest_tree
 from datedlines.runs import run_between, walked
 from datedlines.runsjudged import run_right
+from datedlines.runtext import run_of, run_text
+from datedlines.saysfloor import answer, asked
 from datedlines.setlines import all_met, set_lines
 from datedlines.shapes import made_wood, shape_of
 from datedlines.shares import mean, minus, plus, share, times
+from datedlines.shown import shown, shown_count
 from datedlines.sides import apart_share, beside, unmixed, woven
 from datedlines.spectrum import line_sizes, spectrum
+from datedlines.tables import table_of
 from datedlines.toldboughs import told_boughs, told_share
 from datedlines.treelines import behind_lines, bough_of, lines
 from datedlines.treelooks import renamed_tree
 from datedlines.treeroads import depth, joints, met_on, path
 from datedlines.trees import is_tree, made_tree
+from datedlines.treetext import tree_of, tree_text
 from datedlines.twosets import first_mix, two_sets
 from datedlines.words import words
+from datedlines.woodtext import wood_of, wood_text
 from datedlines.wordtrees import wood_of_words
 
 LATE = Calendar((0, 0, 1, 1, 2), ((2,), (2,), (3,)))
@@ -62,6 +72,8 @@ WOOD = (((0, 1), (2, 3), 4),)
 ORDERED = (((1, 0),), ((2, 3),), ((4, 0, 2),))
 WEAVE = (0, 1, 0, 2)
 SECOND = (((0, 1),), ((0, 2),))
+TABLE = ((0, 2), (2,))
+FLOOR = Floor(LATE, TREE)
 
 NUMBERS = [
     (choose, dict(a=5, b=2)), (met, dict(pattern=(3, 2))), (less, dict(pattern=(3, 2))),
@@ -78,6 +90,7 @@ NUMBERS = [
     (calendar_rank, dict(calendar=plain(4))), (stirling, dict(k=5, j=2)), (chains, dict(k=5)),
     (unmixed, dict(calendar=LATE, some=(2, 3))),
     (cut_count, dict(calendar=LATE, some=(2, 3), small=plain(2), days=(1,))),
+    (shown_count, dict(calendar=LATE, some=(0, 1, 4), table=TABLE)), (kin, dict(floor=FLOOR)),
 ]
 ANSWERS = [
     (is_pattern, dict(thing=(2,))), (is_pattern, dict(thing=3)), (is_plain, dict(calendar=LATE)),
@@ -85,7 +98,7 @@ ANSWERS = [
     (is_tree, dict(calendar=LATE, thing=0)), (together, dict(calendar=LATE, tree=TREE, family=FAMILY)),
     (together, dict(calendar=LATE, tree=TREE, family=((0, 2),))),
     (run_right, dict(calendar=LATE, tree=TREE, run=(), goal=TREE)),
-    (run_right, dict(calendar=LATE, tree=0, run=0, goal=0)),
+    (run_right, dict(calendar=LATE, tree=0, run=0, goal=0)), (can_go_home, dict(floor=FLOOR)),
 ]
 TUPLES = [
     (share, dict(n=2, d=4)), (plus, dict(one=(1, 2), two=(1, 3))), (minus, dict(one=(1, 2), two=(1, 3))),
@@ -125,13 +138,23 @@ TUPLES = [
     (apart_share, dict(one=LATE, two=plain(3), row=WEAVE)), (placed, dict(k=4, pattern=(2,), blocks=(2, 1))),
     (cut, dict(calendar=LATE, tree=TREE, some=(1, 2, 4))),
     (cut_share, dict(calendar=LATE, some=(2, 3), small=plain(2), days=(1,))),
+    (cuts_of, dict(calendar=LATE, some=(2, 3, 4))), (table_of, dict(calendar=LATE, tree=TREE, some=(0, 1, 4))),
+    (shown, dict(calendar=LATE, some=(0, 1, 4), table=TABLE)),
+    (tree_of, dict(calendar=LATE, text="meet 0-1\nmeet 2-3\nmeet 0-2-4")), (wood_of, dict(n=3, text="(0,2) 1")),
+    (run_of, dict(text="change 0 1 2")), (way_home, dict(floor=FLOOR)),
 ]
 CALENDARS = [
     (made_calendar, dict(born=(0, 0), days=((2,),))), (renamed, dict(calendar=LATE, places=(1, 0, 2, 4, 3))),
     (plain, dict(n=3)), (star, dict(n=3)), (rest, dict(calendar=LATE, d=1)),
     (depth_calendar, dict(depths=(1, 2, 2), r=2)), (nth_calendar, dict(k=5, i=7)),
-    (woven, dict(one=LATE, two=plain(3), row=WEAVE)),
+    (woven, dict(one=LATE, two=plain(3), row=WEAVE)), (calendar_of, dict(text="born 0 0\nday 2")),
 ]
+TEXTS = [
+    (calendar_text, dict(calendar=LATE)), (tree_text, dict(calendar=LATE, tree=TREE)),
+    (wood_text, dict(n=5, wood=WOOD)), (run_text, dict(run=(DEED, DEED))), (answer, dict(floor=FLOOR, row="tree")),
+    (asked, dict(floor=FLOOR, row="kin")),
+]
+ALL = NUMBERS + ANSWERS + TUPLES + CALENDARS + TEXTS
 
 
 def parts(thing):
@@ -147,22 +170,22 @@ def parts(thing):
 
 class GeneralTest(unittest.TestCase):
     def test_kinds_of_values(self):
-        for kind, calls in ((int, NUMBERS), (bool, ANSWERS), (tuple, TUPLES), (Calendar, CALENDARS)):
+        for kind, calls in ((int, NUMBERS), (bool, ANSWERS), (tuple, TUPLES), (Calendar, CALENDARS), (str, TEXTS)):
             for function, arguments in calls:
                 found = function(**arguments)
                 self.assertIs(found.__class__, kind, function)
                 for part in parts(found):
-                    self.assertIn(part.__class__, (kind, tuple, int, str, Calendar), function)
+                    self.assertIn(part.__class__, (kind, tuple, int, str, None.__class__, Calendar), function)
 
     def test_by_position_and_again(self):
-        for function, arguments in NUMBERS + ANSWERS + TUPLES + CALENDARS:
+        for function, arguments in ALL:
             found = function(**arguments)
             self.assertEqual(function(*arguments.values()), found)
             self.assertEqual(function(**arguments), found)
 
     def test_calendars_never_change(self):
         self.assertEqual((LATE.born, LATE.days), ((0, 0, 1, 1, 2), ((2,), (2,), (3,))))
-        for function, arguments in NUMBERS + ANSWERS + TUPLES + CALENDARS:
+        for function, arguments in ALL:
             function(**arguments)
         self.assertEqual((LATE.born, LATE.days), ((0, 0, 1, 1, 2), ((2,), (2,), (3,))))
 

@@ -59,7 +59,22 @@ sides: woven(one, two, row) beside(one, first, two, second, row) apart_share(one
 rests: rest(calendar, d) rest_tree(calendar, tree, d) bough_tree(calendar, tree, d, x)
 cuts: placed(k, pattern, blocks) cut(calendar, tree, some)
 cutshares: cut_share(calendar, some, small, days) cut_count(calendar, some, small, days)
+cutlists: cuts_of(calendar, some)
+tables: table_of(calendar, tree, some)
+shown: shown(calendar, some, table) shown_count(calendar, some, table)
+calendartext: calendar_text(calendar) calendar_of(text)
+treetext: tree_text(calendar, tree) tree_of(calendar, text)
+woodtext: wood_text(n, wood) wood_of(n, text)
+runtext: run_text(run) run_of(text)
+floorasks: can_go_home(floor) way_home(floor) kin(floor)
+saysfloor: answer(floor, row) asked(floor, row)
 """
+
+FLOOR = {
+    "__init__": ["self", "calendar", "tree"], "change": ["self", "d", "a", "b"], "regroup": ["self", "d", "row"],
+    "mark": ["self"], "undo": ["self"], "redo": ["self"], "calendar": ["self"], "tree": ["self"], "marked": ["self"],
+    "record": ["self"],
+}
 
 
 def listed():
@@ -88,6 +103,12 @@ class InterfaceTest(unittest.TestCase):
             with open(os.path.join(PACKAGE, file + ".py")) as source:
                 body = ast.parse(source.read()).body
             self.assertIn(name, [part.name for part in body if isinstance(part, ast.FunctionDef)])
+
+    def test_the_floor_has_its_own_methods(self):
+        floor = importlib.import_module("datedlines.floor").Floor
+        self.assertEqual(floor.__module__, "datedlines.floor")
+        for name, arguments in FLOOR.items():
+            self.assertEqual(list(inspect.signature(vars(floor)[name]).parameters), arguments, name)
 
     def test_the_calendar_has_its_own_methods(self):
         calendars = importlib.import_module("datedlines.calendars")
